@@ -1,0 +1,1 @@
+"""Unlikehands: is there anybody for every step, and if not, why not."""
