@@ -1,7 +1,7 @@
 import unittest
 from itertools import combinations
 
-from tests.values import nested, odd_values
+from tests.values import Numbers, nested, odd_values
 from unlikehands.errors import BadFact, BadPattern, NoTuple
 from unlikehands.facts import (
     all_facts, clash, facts_of, fits, fixed, is_fact, opposite, pattern_by, shows_clash,
@@ -27,17 +27,6 @@ def links(pattern):
     """The pairs of places that have one hand, and those that have one group."""
     many = len(pattern[0])
     return [(row, at, to) for row in (0, 1) for at in range(many) for to in range(at) if pattern[row][at] == pattern[row][to]]
-
-
-class Numbers:
-    """Numbers without a clock or a random source: the same ones in each run."""
-
-    def __init__(self, now):
-        self.now = now
-
-    def below(self, many):
-        self.now = (self.now * 1103515245 + 12345) % 2 ** 31
-        return (self.now >> 8) % many
 
 
 class FactTest(unittest.TestCase):

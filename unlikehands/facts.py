@@ -60,7 +60,8 @@ def holds(steps, fact, pattern):
     return is_linked if kind in LINKS_OF_GROUPS else not is_linked
 
 
-def _all_hold(steps, facts, pattern):
+def all_hold(steps, facts, pattern):
+    """Whether all facts hold in a pattern, all of which are what they have to be."""
     return all([holds(steps, fact, pattern) for fact in facts])
 
 
@@ -68,7 +69,7 @@ def fits(steps, pattern, facts):
     """Whether a pattern fits facts."""
     check_pattern(steps, pattern)
     check_facts(steps, facts)
-    return _all_hold(steps, facts, pattern)
+    return all_hold(steps, facts, pattern)
 
 
 def facts_of(steps, pattern):
@@ -97,7 +98,7 @@ def pattern_by(steps, facts):
     """The pattern that fits facts and links the fewest steps, or None if none fits."""
     check_facts(steps, facts)
     pattern = _linked_pattern(steps, facts)
-    return pattern if _all_hold(steps, facts, pattern) else None
+    return pattern if all_hold(steps, facts, pattern) else None
 
 
 def _are_in(facts, kinds, one, other):
