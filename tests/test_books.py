@@ -1,10 +1,11 @@
 import unittest
 
 from tests import trial
-from tests.making import STEPS, a_book, a_rule, a_staff, some_facts
+from tests.checks import FactsCase
+from tests.making import STEPS, a_book, a_rule, some_facts
 from tests.values import Numbers, nested, odd_values, spoilt
 from unlikehands.books import Book, broken, shows_sharing, shows_shut, verdict
-from unlikehands.errors import BadFact, BadRule, BadSharing, NoList, NoRule, NoTuple
+from unlikehands.errors import BadRule, BadSharing, NoList, NoRule
 from unlikehands.staffs import Staff
 
 PEOPLE = [("ann", "red", ("a", "b", "c")), ("bob", "blue", ("b", "c")), ("cid", "red", ("c", "b"))]
@@ -123,7 +124,7 @@ class BrokenTest(unittest.TestCase):
                 broken(book, value)
 
 
-class VerdictTest(unittest.TestCase):
+class VerdictTest(FactsCase):
     def check(self, book, facts):
         """Holds the verdict against a trial of all sharings, and its tree against the words."""
         told = verdict(book, facts=facts)
@@ -220,25 +221,13 @@ class VerdictTest(unittest.TestCase):
     def test_errors(self):
         book = a_small_book(RULES)
         sharing = ("ann", "cid", "bob")
-        for call in [
+        self.assert_facts_are_looked_at([
             lambda facts: verdict(book, facts=facts), lambda facts: shows_sharing(book, sharing, facts=facts),
             lambda facts: shows_sharing(book, None, facts=facts), lambda facts: shows_shut(book, ("rule", 0), facts=facts),
-        ]:
-            for value in odd_values():
-                if not isinstance(value, tuple):
-                    with self.assertRaises(NoTuple):
-                        call(value)
-                with self.assertRaises(BadFact) as caught:
-                    call((("same", "a", "b"), value, value))
-                self.assertEqual(caught.exception.number, 1)
-            with self.assertRaises(BadFact):
-                call((("same", "b", "a"),))
-        with self.assertRaises(TypeError):
-            verdict(book, ())
-        with self.assertRaises(TypeError):
-            shows_sharing(book, sharing, ())
-        with self.assertRaises(TypeError):
-            shows_shut(book, sharing, ())
+        ])
+        self.assert_facts_by_name_alone(verdict, book)
+        self.assert_facts_by_name_alone(shows_sharing, book, sharing)
+        self.assert_facts_by_name_alone(shows_shut, book, sharing)
 
 
 class ShowsSharingTest(unittest.TestCase):

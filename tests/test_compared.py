@@ -1,11 +1,12 @@
 import unittest
 
 from tests import trial
+from tests.checks import FactsCase
 from tests.making import a_book, some_facts
 from tests.values import Numbers, nested, odd_values, spoilt
 from unlikehands.books import Book
 from unlikehands.compared import fates, hands, shows_fate, shows_hand, sure
-from unlikehands.errors import BadFact, NoStep, NoTuple
+from unlikehands.errors import NoStep
 from unlikehands.staffs import Staff
 
 
@@ -44,7 +45,7 @@ def books(seed, turns, most_steps=4):
         yield book, some_facts(numbers, book.steps, turn % 4)
 
 
-class FatesTest(unittest.TestCase):
+class FatesTest(FactsCase):
     def test_against_a_trial(self):
         found = []
         for book, facts in books(51, 120):
@@ -113,24 +114,13 @@ class FatesTest(unittest.TestCase):
 
     def test_errors(self):
         book = Book(Staff(["a", "b"], []), [])
-        for call in [
+        self.assert_facts_are_looked_at([
             lambda facts: fates(book, facts=facts), lambda facts: sure(book, facts=facts),
             lambda facts: shows_fate(book, None, facts=facts),
             lambda facts: hands(book, "a", facts=facts), lambda facts: shows_hand(book, "a", None, facts=facts),
-        ]:
-            for value in odd_values():
-                if not isinstance(value, tuple):
-                    with self.assertRaises(NoTuple):
-                        call(value)
-                with self.assertRaises(BadFact) as caught:
-                    call((("same", "a", "b"), value, value))
-                self.assertEqual(caught.exception.number, 1)
-        for call in [fates, sure]:
-            with self.assertRaises(TypeError):
-                call(book, ())
-        for call in [shows_fate, hands]:
-            with self.assertRaises(TypeError):
-                call(book, "a", ())
+        ])
+        for call, values in [(fates, ()), (sure, ()), (shows_fate, (None,)), (hands, ("a",)), (shows_hand, ("a", None))]:
+            self.assert_facts_by_name_alone(call, book, *values)
 
 
 class HandsTest(unittest.TestCase):

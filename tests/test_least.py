@@ -2,10 +2,10 @@ import unittest
 from itertools import combinations
 
 from tests import trial
+from tests.checks import FactsCase
 from tests.making import STEPS, a_book, some_facts
 from tests.values import Numbers, nested, odd_values, spoilt
 from unlikehands.books import Book, shows_shut, verdict
-from unlikehands.errors import BadFact, NoTuple
 from unlikehands.least import fewest_hands, least_drop, shows_drop, shows_fewest
 from unlikehands.staffs import Staff
 
@@ -162,9 +162,9 @@ class LeastDropTest(unittest.TestCase):
     def test_against_a_trial(self):
         found = []
         for book, facts in books(84, 400, 6):
-            rules = book.rules
+            rules, people = book.rules, book.staff.people()
             told = self.check(book, facts)
-            self.assertEqual(book.rules, rules)
+            self.assertEqual([book.rules, book.staff.people()], [rules, people])
             found.append(len(told[1]) if told[0] == "yes" else "no")
         for many in ["no", 0, 1, 2]:
             self.assertGreater(found.count(many), 10)
@@ -264,27 +264,16 @@ class LeastDropTest(unittest.TestCase):
         self.assertEqual(len(book), 2)
 
 
-class ErrorsTest(unittest.TestCase):
+class ErrorsTest(FactsCase):
     def test_facts(self):
         book = Book(EVERYBODY, [])
-        for call in [
+        self.assert_facts_are_looked_at([
             lambda facts: fewest_hands(book, facts=facts), lambda facts: least_drop(book, facts=facts),
             lambda facts: shows_fewest(book, None, facts=facts), lambda facts: shows_drop(book, None, facts=facts),
             lambda facts: shows_drop(book, ("yes", [], ("ann", "ann", "ann"), None), facts=facts),
-        ]:
-            for value in odd_values():
-                if not isinstance(value, tuple):
-                    with self.assertRaises(NoTuple):
-                        call(value)
-                with self.assertRaises(BadFact) as caught:
-                    call((("same", "a", "b"), value, value))
-                self.assertEqual(caught.exception.number, 1)
-        for call in [fewest_hands, least_drop]:
-            with self.assertRaises(TypeError):
-                call(book, ())
-        for call in [shows_fewest, shows_drop]:
-            with self.assertRaises(TypeError):
-                call(book, None, ())
+        ])
+        for call, values in [(fewest_hands, ()), (least_drop, ()), (shows_fewest, (None,)), (shows_drop, (None,))]:
+            self.assert_facts_by_name_alone(call, book, *values)
 
 
 if __name__ == "__main__":

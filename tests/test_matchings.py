@@ -16,7 +16,7 @@ def facts_of(steps, pattern):
 
 
 def small_staffs(many_steps):
-    """All staffs of two groups and two people, and some more of up to five people."""
+    """All staffs of two people, of one group or of two."""
     steps = STEPS[:many_steps]
     lists = [tuple(step for step, has in zip(steps, row) if has) for row in product([True, False], repeat=many_steps)]
     for one, other in product(lists, repeat=2):
@@ -95,6 +95,29 @@ class SharingOfTest(unittest.TestCase):
         for order in [["blue", "red"], ["red", "blue"]]:
             self.assertIs(shows_unfit(staff, facts_of(staff.steps, pattern), ("unfit", ["b", "c", "a"], order, [])), True)
 
+    def test_too_few_people_for_some_of_a_group(self):
+        # There are people enough for c; the other three hands want three people, and two are there.
+        lists = [("c", "b"), ("c",), ("a", "d", "b"), ("a", "d", "b")]
+        for order in [[0, 1, 2, 3], [3, 2, 1, 0], [1, 3, 0, 2]]:
+            for rest in [("a", "d", "b"), ("a", "d")]:
+                people = [("abcd"[at], "red", lists[at] if at != 0 or rest[-1] == "b" else ("c",)) for at in order]
+                self.check(Staff(FOUR, people))
+        people = [("ann", "red", ("c",)), ("bob", "red", ("c",)), ("cid", "red", ("a", "d", "b")), ("dan", "red", ("a", "d", "b"))]
+        staff = Staff(FOUR, people)
+        pattern = ((0, 1, 2, 3), (0, 0, 0, 0))
+        self.assertEqual(sorted(unfit(staff, pattern)[3][0][2]), ["a", "b", "d"])
+
+    def test_too_few_groups_for_some(self):
+        # c can be of two groups, and so can each other one; but three of them have the same two.
+        groups = ["red", "blue", "green", "white"]
+        people = [(group + "x", group, ("c",) if at < 2 else ("a", "d", "b")) for at, group in enumerate(groups)]
+        staff = Staff(FOUR, people)
+        self.check(staff)
+        pattern = ((0, 1, 2, 3), (0, 1, 2, 3))
+        word, steps, left, crowds = unfit(staff, pattern)
+        self.assertEqual([sorted(steps), left, len(crowds)], [["a", "b", "d"], ["green", "white"], 6])
+        self.check(Staff(FOUR, people[::-1]))
+
     def test_errors(self):
         staff = a_staff(Numbers(1), 2, 3)
         for call in [sharing_of, unfit]:
@@ -170,6 +193,12 @@ class ShowsUnfitTest(unittest.TestCase):
                 facts = some_facts(numbers, staff.steps, 4)
                 found += self.check(staff, facts, papers)
         self.assertEqual({True, False}, set(found))
+
+    def test_groups_that_stand_twice(self):
+        staff = Staff(["a", "b", "c"], [("ann", "red", ("a", "b", "c"))])
+        far = (("far", "a", "b"), ("far", "a", "c"), ("far", "b", "c"))
+        for groups, good in [(["red"], True), (["red", "red"], False), (["blue"], False), (("red",), False), ("red", False)]:
+            self.assertIs(shows_unfit(staff, far, ("unfit", ["a", "b", "c"], groups, [])), good)
 
     def test_facts_that_are_not_possible(self):
         staff = Staff(["a", "b"], [])

@@ -1,6 +1,6 @@
 """Books: a staff with rules, and whether there is anybody for every step."""
 
-from unlikehands.errors import BadSharing, NoList, NoRule
+from unlikehands.errors import NoList, NoRule
 from unlikehands.facts import all_hold, check_facts
 from unlikehands.known import known_of, loosest_pattern
 from unlikehands.matchings import crews_of, is_unfit, sharing_in, unfit_by
@@ -57,8 +57,6 @@ class Book:
 
 def broken(book, sharing):
     """None if a sharing keeps all rules, else the number of the first rule that it breaks."""
-    if not is_sharing(book.staff, sharing):
-        raise BadSharing()
     pattern = pattern_of(book.staff, sharing)
     for number, rule in enumerate(book.rules):
         if not kept_in(book.steps, rule, pattern):

@@ -4,7 +4,7 @@ from unlikehands.errors import Misfit, NoSharing
 from unlikehands.facts import all_hold, check_facts, check_pattern
 from unlikehands.known import first_places, known_of
 from unlikehands.matchings import crews_of, hands_within, who_can
-from unlikehands.patterns import all_patterns, is_integer, is_sharing, pattern_of
+from unlikehands.patterns import all_patterns, is_integer, pattern_of
 from unlikehands.rules import kept_in
 
 
@@ -97,9 +97,7 @@ def at_number(book, number, *, facts=()):
 
 def number_of(book, sharing, *, facts=()):
     """The number of a sharing among those that fit facts and keep all rules."""
-    check_facts(book.steps, facts)
-    if is_sharing(book.staff, sharing):
-        for at, other in enumerate(all_sharings(book, facts=facts)):
-            if other == sharing:
-                return at
+    for at, other in enumerate(all_sharings(book, facts=facts)):
+        if other == sharing:
+            return at
     raise Misfit()
