@@ -14,7 +14,7 @@ def _without_people(book, names):
     return Book(book.staff.without(names), book.rules)
 
 
-class _Stays:
+class Stays:
     """The sharings of a book that stay if some people are away."""
 
     def __init__(self, book):
@@ -52,7 +52,7 @@ def _check_many(many):
 def stands(book, many):
     """("yes", paper) if a book stands so many absences, or ("no", names, tree) with people it can't spare."""
     _check_many(many)
-    source = _Stays(book)
+    source = Stays(book)
     told = paper_of(source, [], many, {})
     if told[0] == "yes":
         return told
@@ -73,7 +73,7 @@ def shows_stands(book, many, value):
     if not isinstance(value, tuple):
         return False
     if len(value) == 2:
-        return value[0] == "yes" and shows_paper(_Stays(book), many, value[1])
+        return value[0] == "yes" and shows_paper(Stays(book), many, value[1])
     if len(value) != 3 or value[0] != "no" or not _are_people(book, value[1]):
         return False
     return len(value[1]) <= many and shows_shut(_without_people(book, value[1]), value[2])
@@ -81,7 +81,7 @@ def shows_stands(book, many, value):
 
 def stoppers(book):
     """(names, tree, paper): fewest people without whom the book has no sharing, and what shows it."""
-    source = _Stays(book)
+    source = Stays(book)
     gone, tree, paper = deepest_paper(source)
     return (source.in_order(gone), tree, paper)
 
@@ -95,7 +95,7 @@ def shows_stoppers(book, value):
         return False
     if not names:
         return paper is None
-    return shows_paper(_Stays(book), len(names) - 1, paper)
+    return shows_paper(Stays(book), len(names) - 1, paper)
 
 
 def critical(book):

@@ -6,7 +6,7 @@ from unlikehands.rules import broken_by, check_rules, kept_by, kept_in, placed_r
 from unlikehands.trees import Rulebook, grown, shows_tree, unsure_in
 
 
-class _FollowingCases:
+class FollowingCases:
     """What a tree of cases is about that shows that a rule follows from others."""
 
     def __init__(self, steps, others, rule):
@@ -40,7 +40,7 @@ def implied(steps, one, other):
     check_rules(steps, other)
     trees = []
     for rule in other:
-        word, paper = grown(_FollowingCases(steps, one, rule), steps, ())
+        word, paper = grown(FollowingCases(steps, one, rule), steps, ())
         # An answer is a pattern that speaks against it.
         if word == "yes":
             return ("no", paper)
@@ -56,7 +56,7 @@ def _shows_trees(steps, one, other, value):
     """Whether a value is a list of trees, one for each rule of other."""
     if not isinstance(value, list) or len(value) != len(other):
         return False
-    return all([shows_tree(_FollowingCases(steps, one, rule), steps, (), tree) for rule, tree in zip(other, value)])
+    return all([shows_tree(FollowingCases(steps, one, rule), steps, (), tree) for rule, tree in zip(other, value)])
 
 
 def shows_implied(steps, one, other, value):

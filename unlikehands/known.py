@@ -107,7 +107,7 @@ def _lots_in(row):
 def known_of(pattern):
     """What the facts fix that hold in a pattern."""
     same, near = _lots_in(pattern[0]), _lots_in(pattern[1])
-    everything = lot_of(range(len(same)))
+    everything = lot_of(list(range(len(same))))
     return {
         "same": same, "near": near,
         "unlike": tuple([everything ^ lot for lot in same]), "far": tuple([everything ^ lot for lot in near]),

@@ -37,7 +37,7 @@ def shows_fewest(book, value, *, facts=()):
     return shows_shut(_fewer_hands(book, value[1]), value[2], facts=facts)
 
 
-class _Conflicts:
+class Conflicts:
     """The trees of cases of a book that show which of its rules can't be kept together."""
 
     def __init__(self, book, facts):
@@ -80,7 +80,7 @@ def least_drop(book, *, facts=()):
     word, tree = verdict_by(book, [], facts)
     if word == "no":
         return (word, tree)
-    gone, sharing, paper = deepest_paper(_Conflicts(book, facts))
+    gone, sharing, paper = deepest_paper(Conflicts(book, facts))
     return ("yes", sorted(gone), sharing, paper)
 
 
@@ -107,4 +107,4 @@ def shows_drop(book, value, *, facts=()):
         return False
     if not numbers:
         return paper is None
-    return shows_paper(_Conflicts(book, facts), len(numbers) - 1, paper)
+    return shows_paper(Conflicts(book, facts), len(numbers) - 1, paper)
