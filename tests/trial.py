@@ -242,3 +242,52 @@ def rules_in(tree):
     if len(tree) == 5:
         return sorted({*rules_in(tree[3]), *rules_in(tree[4])})
     return [tree[1]] if tree[0] == "rule" else []
+
+
+class Priced:
+    """Priced trees of point 25, word by word: of a book, a dict of costs by step and name, and facts."""
+
+    def __init__(self, book, costs, facts):
+        self.book, self.costs, self.facts = book, costs, facts
+        self.trees = trees_of(book)
+        self.able = [[name for name, _, able in book.staff.people() if step in able] for step in book.steps]
+
+    def facts_of(self, names):
+        """The facts about the first steps that their hands make so."""
+        groups = {name: group for name, group, _ in self.book.staff.people()}
+        steps = self.book.steps[:len(names)]
+        given = dict(zip(steps, names))
+        found = []
+        for one, other in combinations(steps, 2):
+            found.append(("same" if given[one] == given[other] else "unlike", one, other))
+            found.append(("near" if groups[given[one]] == groups[given[other]] else "far", one, other))
+        return found
+
+    def is_dear(self, names, bound):
+        steps = self.book.steps
+        if not all(self.able[len(names):]):
+            return True
+        spent = sum(self.costs[step, name] for step, name in zip(steps, names))
+        further = range(len(names), len(steps))
+        return spent + sum(min(self.costs[steps[at], name] for name in self.able[at]) for at in further) >= bound
+
+    def shows(self, bound, value, names=()):
+        if not isinstance(value, tuple) or not 1 <= len(value) <= 2 or not isinstance(value[0], str):
+            return False
+        if len(value) == 1:
+            return value[0] == "dear" and self.is_dear(names, bound)
+        word, paper = value
+        if word == "rule":
+            known = self.trees.known(self.facts_of(names))
+            return is_number(paper, len(self.book.rules)) and known.breaks(self.book.rules[paper])
+        if word == "fact":
+            if not isinstance(paper, tuple) or not all(isinstance(part, str) for part in paper) or paper not in self.facts:
+                return False
+            return turned(paper) in self.facts_of(names)
+        if word != "who" or len(names) == len(self.book.steps) or not isinstance(paper, list):
+            return False
+        if not all(isinstance(row, tuple) and len(row) == 2 for row in paper):
+            return False
+        if [row[0] for row in paper] != self.able[len(names)]:
+            return False
+        return all(self.shows(bound, below, (*names, name)) for name, below in paper)

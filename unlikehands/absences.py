@@ -9,8 +9,8 @@ from unlikehands.patterns import is_integer
 MOST_ABSENCES = 8
 
 
-def _without_people(book, names):
-    """The book whose staff has not these people."""
+def book_without(book, names):
+    """The book whose staff does not have these people."""
     return Book(book.staff.without(names), book.rules)
 
 
@@ -31,7 +31,7 @@ class Stays:
             if not any([name in gone for name in sharing]):
                 return ("yes", sharing, self.in_order(sharing))
         # Fewer hands make fewer rows.
-        told = fewest_hands(_without_people(self.book, gone))
+        told = fewest_hands(book_without(self.book, gone))
         if told[0] == "no":
             return told
         self.met.append(told[1])
@@ -39,19 +39,20 @@ class Stays:
 
     def parts_of(self, gone, value):
         """The people in a sharing, none of whom is gone, or None if a value is no such sharing."""
-        if not shows_sharing(_without_people(self.book, gone), value):
+        if not shows_sharing(book_without(self.book, gone), value):
             return None
         return self.in_order(value)
 
 
-def _check_many(many):
+def check_many(many):
+    """Raises an error if so many people are none that may be asked for."""
     if not is_integer(many) or not 0 <= many <= MOST_ABSENCES:
         raise BadNumber()
 
 
 def stands(book, many):
     """("yes", paper) if a book stands so many absences, or ("no", names, tree) with people it can't spare."""
-    _check_many(many)
+    check_many(many)
     source = Stays(book)
     told = paper_of(source, [], many, {})
     if told[0] == "yes":
@@ -59,9 +60,9 @@ def stands(book, many):
     return ("no", source.in_order(told[1]), told[2])
 
 
-def _are_people(book, value):
-    """Whether a value is a list of unlike people of a book in the order of the staff."""
-    names = book.staff.names
+def are_people(staff, value):
+    """Whether a value is a list of unlike people of a staff in their order."""
+    names = staff.names
     if not isinstance(value, list) or len(value) > len(names):
         return False
     return value == [name for name in names if name in value]
@@ -69,14 +70,14 @@ def _are_people(book, value):
 
 def shows_stands(book, many, value):
     """Whether a value shows that a book stands so many absences, or that it does not."""
-    _check_many(many)
+    check_many(many)
     if not isinstance(value, tuple):
         return False
     if len(value) == 2:
         return value[0] == "yes" and shows_paper(Stays(book), many, value[1])
-    if len(value) != 3 or value[0] != "no" or not _are_people(book, value[1]):
+    if len(value) != 3 or value[0] != "no" or not are_people(book.staff, value[1]):
         return False
-    return len(value[1]) <= many and shows_shut(_without_people(book, value[1]), value[2])
+    return len(value[1]) <= many and shows_shut(book_without(book, value[1]), value[2])
 
 
 def stoppers(book):
@@ -91,7 +92,7 @@ def shows_stoppers(book, value):
     if not isinstance(value, tuple) or len(value) != 3:
         return False
     names, tree, paper = value
-    if not _are_people(book, names) or not shows_shut(_without_people(book, names), tree):
+    if not are_people(book.staff, names) or not shows_shut(book_without(book, names), tree):
         return False
     if not names:
         return paper is None
@@ -102,7 +103,7 @@ def critical(book):
     """The list of (name, tree) for the people without whom alone the book has no sharing."""
     found = []
     for name in book.staff.names:
-        word, paper = verdict(_without_people(book, [name]))
+        word, paper = verdict(book_without(book, [name]))
         if word == "no":
             found.append((name, paper))
     return found

@@ -2,7 +2,7 @@
 
 from unlikehands.known import loosest_pattern
 from unlikehands.patterns import is_pattern
-from unlikehands.rules import broken_by, check_rules, kept_by, kept_in, placed_rule
+from unlikehands.rules import broken_by, check_rules, keeps_all, kept_by, placed_rule
 from unlikehands.trees import Rulebook, grown, shows_tree, unsure_in
 
 
@@ -10,7 +10,7 @@ class FollowingCases:
     """What a tree of cases is about that shows that a rule follows from others."""
 
     def __init__(self, steps, others, rule):
-        self.rulebook = Rulebook(steps, others, list(range(len(others))))
+        self.rulebook = Rulebook(steps, dict(enumerate(others)), list(range(len(others))))
         self.rule = placed_rule(steps, rule)
 
     def leaf(self, known):
@@ -48,10 +48,6 @@ def implied(steps, one, other):
     return ("yes", trees)
 
 
-def _keeps_all(steps, rules, pattern):
-    return all([kept_in(steps, rule, pattern) for rule in rules])
-
-
 def _shows_trees(steps, one, other, value):
     """Whether a value is a list of trees, one for each rule of other."""
     if not isinstance(value, list) or len(value) != len(other):
@@ -70,7 +66,7 @@ def shows_implied(steps, one, other, value):
         return _shows_trees(steps, one, other, paper)
     if word != "no" or not is_pattern(len(steps), paper):
         return False
-    return _keeps_all(steps, one, paper) and not _keeps_all(steps, other, paper)
+    return keeps_all(steps, one, paper) and not keeps_all(steps, other, paper)
 
 
 def needless(steps, rules):

@@ -65,12 +65,15 @@ def broken(book, sharing):
 
 
 class BookCases:
-    """What a tree of cases for a book is about; the rules with some numbers count when one is grown."""
+    """What a tree of cases is about, for a staff with a dict from numbers to rules.
 
-    def __init__(self, book, numbers):
-        self.order = book.steps
-        self.crews = crews_of(book.staff)
-        self.rulebook = Rulebook(book.steps, book.rules, numbers)
+    The rules with some of the numbers count when a tree is grown.
+    """
+
+    def __init__(self, staff, rules, numbers):
+        self.order = staff.steps
+        self.crews = crews_of(staff)
+        self.rulebook = Rulebook(staff.steps, rules, numbers)
 
     def leaf(self, known):
         """A leaf that shows that no sharing fits and keeps all, or None if none is found."""
@@ -95,9 +98,13 @@ class BookCases:
         return is_unfit(self.order, self.crews, known, value)
 
 
+def _cases_of(book, numbers):
+    return BookCases(book.staff, dict(enumerate(book.rules)), numbers)
+
+
 def verdict_by(book, numbers, facts):
     """As verdict tells of the rules of a book with these numbers, without the others."""
-    return grown(BookCases(book, numbers), book.steps, facts)
+    return grown(_cases_of(book, numbers), book.steps, facts)
 
 
 def verdict(book, *, facts=()):
@@ -117,4 +124,4 @@ def shows_sharing(book, value, *, facts=()):
 def shows_shut(book, value, *, facts=()):
     """Whether a value is a tree of cases for a book and facts."""
     check_facts(book.steps, facts)
-    return shows_tree(BookCases(book, list(range(len(book)))), book.steps, facts, value)
+    return shows_tree(_cases_of(book, list(range(len(book)))), book.steps, facts, value)

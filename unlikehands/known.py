@@ -104,11 +104,19 @@ def _lots_in(row):
     return tuple([lot_of([place for place, each in enumerate(row) if each == number]) for number in row])
 
 
-def known_of(pattern):
-    """What the facts fix that hold in a pattern."""
+def known_at_first(pattern, many):
+    """What the facts fix about so many steps that hold in a pattern of the first ones of them."""
     same, near = _lots_in(pattern[0]), _lots_in(pattern[1])
     everything = lot_of(list(range(len(same))))
+    alone = tuple([1 << place for place in range(len(same), many)])
+    nobody = (0,) * len(alone)
     return {
-        "same": same, "near": near,
-        "unlike": tuple([everything ^ lot for lot in same]), "far": tuple([everything ^ lot for lot in near]),
+        "same": same + alone, "near": near + alone,
+        "unlike": tuple([everything ^ lot for lot in same]) + nobody,
+        "far": tuple([everything ^ lot for lot in near]) + nobody,
     }
+
+
+def known_of(pattern):
+    """What the facts fix that hold in a pattern."""
+    return known_at_first(pattern, len(pattern[0]))

@@ -5,7 +5,7 @@ from unlikehands.facts import all_hold, check_facts, check_pattern
 from unlikehands.known import first_places, known_of
 from unlikehands.matchings import crews_of, hands_within, who_can
 from unlikehands.patterns import all_patterns, is_integer, pattern_of
-from unlikehands.rules import kept_in
+from unlikehands.rules import keeps_all
 
 
 def _ways(rows, taken=()):
@@ -38,7 +38,7 @@ def ways_of(staff, pattern):
 def _is_right(book, facts, pattern):
     """Whether a pattern fits facts and keeps all rules."""
     steps = book.steps
-    return all_hold(steps, facts, pattern) and all([kept_in(steps, rule, pattern) for rule in book.rules])
+    return all_hold(steps, facts, pattern) and keeps_all(steps, book.rules, pattern)
 
 
 def counts(book, *, facts=()):

@@ -64,13 +64,13 @@ def shows_paper(source, depth, value):
         if parts is None or not isinstance(rows, list):
             return False
         due = parts if deep > 0 else []
-        if not _are_rows(due, rows):
+        if not are_rows(due, rows):
             return False
         left.extend([(below, [*gone, part], deep - 1) for part, below in rows])
     return True
 
 
-def _are_rows(due, rows):
+def are_rows(due, rows):
     """Whether rows have a tuple with something for just the parts that are due, in their order."""
     if len(rows) != len(due):
         return False

@@ -60,6 +60,11 @@ def kept_in(steps, rule, pattern):
     return unlike <= many if kind in ("most", "most groups") else unlike >= many
 
 
+def keeps_all(steps, rules, pattern):
+    """Whether a pattern keeps all rules, all of which are what they have to be."""
+    return all([kept_in(steps, rule, pattern) for rule in rules])
+
+
 def keeps(steps, rule, pattern):
     """Whether a pattern keeps a rule."""
     check_rules(steps, [rule])

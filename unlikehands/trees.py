@@ -48,10 +48,10 @@ def unsure_in(known, rule):
 
 
 class Rulebook:
-    """Rules in a tree of cases, of which those with some numbers count."""
+    """Rules in a tree of cases, a dict from numbers to rules, of which those with some numbers count."""
 
     def __init__(self, steps, rules, numbers):
-        self.placed = [placed_rule(steps, rule) for rule in rules]
+        self.placed = {number: placed_rule(steps, rule) for number, rule in rules.items()}
         self.counting = list(numbers)
 
     def broken_leaf(self, known):
@@ -73,7 +73,8 @@ class Rulebook:
         if not isinstance(value, tuple) or len(value) != 2 or value[0] != "rule":
             return False
         number = value[1]
-        if not is_integer(number) or not 0 <= number < len(self.placed):
+        # True and 1 are one key, but only one of them is a number.
+        if not is_integer(number) or number not in self.placed:
             return False
         return broken_by(known, self.placed[number])
 
