@@ -2,11 +2,33 @@
 
 import unittest
 
-from tests.values import odd_values
+from tests.values import odd_values, spoilt
 from unlikehands.errors import BadFact, NoTuple
 
 
-class FactsCase(unittest.TestCase):
+class PapersCase(unittest.TestCase):
+    """Tests of calls that look papers over."""
+
+    def spoilt_dues(self, told, others, most, shows, by_words):
+        """Holds a call against what goes by the words, for an answer of at most so many signs with one thing changed.
+
+        Returns the list of the first word of the answer and whether what it became is right.
+        """
+        dues = []
+        for value in spoilt(told, others) if len(str(told)) < most else []:
+            due = by_words(value)
+            self.assertIs(shows(value), due, (told, value))
+            dues.append((told[0], due))
+        return dues
+
+    def assert_right_and_wrong(self, dues, least):
+        """Holds that of "yes" and of "no" there are at least so many right and wrong ones."""
+        for word in ["yes", "no"]:
+            for due in [True, False]:
+                self.assertGreater(dues.count((word, due)), least, (word, due))
+
+
+class FactsCase(PapersCase):
     """Tests of calls that take facts about the steps a and b."""
 
     def assert_facts_are_looked_at(self, calls):

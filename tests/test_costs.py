@@ -3,7 +3,7 @@ import unittest
 from tests import trial
 from tests.checks import FactsCase
 from tests.making import a_book, some_facts
-from tests.values import Numbers, nested, odd_values, spoilt
+from tests.values import Numbers, nested, odd_values
 from unlikehands.books import Book, shows_shut, verdict
 from unlikehands.costs import by_cost, cheapest, cost_of, how_cheap, shows_cheapest, shows_priced
 from unlikehands.errors import BadCost, BadFact, BadNumber, BadSharing, NoCost, NoList, NoTuple
@@ -31,15 +31,7 @@ def cost_by(book, costs, sharing):
 
 
 def cheapest_by_words(book, costs, value, facts):
-    if not isinstance(value, tuple):
-        return False
-    if len(value) == 2:
-        return value[0] == "no" and trial.trees_of(book).shows(facts, value[1])
-    if len(value) != 4 or value[0] != "yes" or value[1] not in trial.right_sharings(book, facts):
-        return False
-    if not trial.is_number(value[2], 10 ** 9) or value[2] != cost_by(book, costs, value[1]):
-        return False
-    return trial.Priced(book, table_of(costs), facts).shows(value[2], value[3])
+    return trial.Priced(book, table_of(costs), facts).shows_cheapest(value)
 
 
 def cases(seed, turns, most_rules=3):
@@ -139,13 +131,11 @@ class CheapestTest(CostsCase):
         for book, costs, facts in cases(704, 150, 2):
             told = cheapest(book, costs, facts=facts)
             others = ["yes", "no", *book.staff.names[:1], True, 0, 1, [], (), ("dear",), ("rule", 0), ("rule", 1), *[("fact", fact) for fact in facts[:1]]]
-            for value in spoilt(told, others) if len(str(told)) < 200 else []:
-                due = cheapest_by_words(book, costs, value, facts)
-                self.assertIs(shows_cheapest(book, costs, value, facts=facts), due, (book.staff.people(), book.rules, costs, facts, value))
-                found.append((told[0], due))
-        for word in ["yes", "no"]:
-            for due in [True, False]:
-                self.assertGreater(found.count((word, due)), 10, (word, due))
+            found += self.spoilt_dues(
+                told, others, 200, lambda value: shows_cheapest(book, costs, value, facts=facts),
+                lambda value: cheapest_by_words(book, costs, value, facts),
+            )
+        self.assert_right_and_wrong(found, 10)
 
     def test_priced_trees_for_other_bounds(self):
         found = []

@@ -4,7 +4,7 @@ from itertools import combinations, product
 from tests import trial
 from tests.checks import FactsCase
 from tests.making import a_book, some_facts
-from tests.values import Numbers, nested, odd_values, spoilt
+from tests.values import Numbers, nested, odd_values
 from unlikehands.books import Book, shows_sharing, shows_shut, verdict
 from unlikehands.errors import BadGrant, BadWas, NoList
 from unlikehands.grants import fewest_grants, granted, nearest, shows_grants, shows_nearest
@@ -52,16 +52,7 @@ def change_costs(staff, was):
 
 
 def nearest_by_words(book, was, value, facts):
-    if not isinstance(value, tuple):
-        return False
-    if len(value) == 2:
-        return value[0] == "no" and trial.trees_of(book).shows(facts, value[1])
-    if len(value) != 4 or value[0] != "yes" or value[1] not in trial.right_sharings(book, facts):
-        return False
-    _, sharing, number, paper = value
-    if not trial.is_number(number, 7) or number != changes(sharing, was):
-        return False
-    return trial.Priced(book, change_costs(book.staff, was), facts).shows(number, paper)
+    return trial.Priced(book, change_costs(book.staff, was), facts).shows_cheapest(value)
 
 
 def changes(sharing, was):
@@ -180,13 +171,10 @@ class FewestGrantsTest(FactsCase):
         for book, facts in cases(804, 120, 3, 2):
             told = fewest_grants(book, facts=facts)
             others = ["yes", "no", *book.staff.names[:2], book.steps[0], True, 0, [], (), ("dear",), ("rule", 0), *[("fact", fact) for fact in facts[:1]]]
-            for value in spoilt(told, others) if len(str(told)) < 180 else []:
-                due = grants_by_words(book, value, facts)
-                self.assertIs(shows_grants(book, value, facts=facts), due, (book.staff.people(), book.rules, facts, value))
-                found.append((told[0], due))
-        for word in ["yes", "no"]:
-            for due in [True, False]:
-                self.assertGreater(found.count((word, due)), 5, (word, due))
+            found += self.spoilt_dues(
+                told, others, 180, lambda value: shows_grants(book, value, facts=facts), lambda value: grants_by_words(book, value, facts),
+            )
+        self.assert_right_and_wrong(found, 5)
 
     def test_values_of_every_kind(self):
         for rules in [[], [("same", "a", "c")], [("most", ("a",), 0)]]:
@@ -264,13 +252,11 @@ class NearestTest(FactsCase):
             was = self.elder(numbers, book)[0]
             told = nearest(book, was, facts=facts)
             others = ["yes", "no", *book.staff.names[:1], True, 0, 1, [], (), ("dear",), ("rule", 0), *[("fact", fact) for fact in facts[:1]]]
-            for value in spoilt(told, others) if len(str(told)) < 180 else []:
-                due = nearest_by_words(book, was, value, facts)
-                self.assertIs(shows_nearest(book, was, value, facts=facts), due, (book.staff.people(), book.rules, was, facts, value))
-                found.append((told[0], due))
-        for word in ["yes", "no"]:
-            for due in [True, False]:
-                self.assertGreater(found.count((word, due)), 5, (word, due))
+            found += self.spoilt_dues(
+                told, others, 180, lambda value: shows_nearest(book, was, value, facts=facts),
+                lambda value: nearest_by_words(book, was, value, facts),
+            )
+        self.assert_right_and_wrong(found, 5)
 
     def test_values_of_every_kind(self):
         for rules in [[], [("far", "b", "c")], [("most", ("a",), 0)]]:

@@ -2,8 +2,9 @@ import unittest
 from itertools import combinations
 
 from tests import trial
+from tests.checks import PapersCase
 from tests.making import NAMES, STEPS, a_book
-from tests.values import Numbers, nested, odd_values, spoilt
+from tests.values import Numbers, nested, odd_values
 from unlikehands.absences import stands
 from unlikehands.books import Book, verdict
 from unlikehands.errors import BadNumber, NoList, NoPerson, NotReady, Stuck, TooMany
@@ -109,7 +110,7 @@ def books(seed, turns, most_steps=4, most_people=5):
         yield a_book(numbers, 1 + turn % most_steps, numbers.below(most_people + 1), numbers.one_of([0, 0, 1, 1, 2]))
 
 
-class KeepsOnTest(unittest.TestCase):
+class KeepsOnTest(PapersCase):
     def test_against_a_walk_backwards(self):
         found = []
         for book in books(201, 160):
@@ -173,13 +174,10 @@ class KeepsOnTest(unittest.TestCase):
             for many in [0, 1, 2]:
                 told = keeps_on(book, many)
                 others = ["yes", "no", *book.staff.names[:2], "zoe", True, 0, 1, [], (), ("rule", 0)]
-                for value in spoilt(told, others) if len(str(told)) < 260 else []:
-                    due = shows_by_words(book, many, value)
-                    self.assertIs(shows_keeps_on(book, many, value), due, (book.staff.people(), book.rules, many, value))
-                    found.append((told[0], due))
-        for word in ["yes", "no"]:
-            for due in [True, False]:
-                self.assertGreater(found.count((word, due)), 20, (word, due))
+                found += self.spoilt_dues(
+                    told, others, 260, lambda value: shows_keeps_on(book, many, value), lambda value: shows_by_words(book, many, value),
+                )
+        self.assert_right_and_wrong(found, 20)
 
     def test_other_plans(self):
         book = Book(THREE, [])
@@ -231,6 +229,12 @@ class KeepsOnTest(unittest.TestCase):
         ]:
             self.assertIs(is_attack(ONE_HAND, 1, wrong), False)
             self.assertIs(shows_keeps_on(ONE_HAND, 1, ("no", wrong)), False)
+        # Nobody leaves twice, also where more might leave.
+        far = Book(TWO, [("far", "ask", "grant")])
+        for names, due in [([], True), (["ann"], False)]:
+            value = ("no", ("gone", ["ann"], [("bob", ("gone", names, [("bob", ("rule", 0))]))]))
+            self.assertIs(shows_by_words(far, 2, value), due)
+            self.assertIs(shows_keeps_on(far, 2, value), due)
         all_leave = ("gone", ["ann"], [("bob", ("gone", ["bob"], []))])
         self.assertIs(shows_keeps_on(ONE_HAND, 2, ("no", all_leave)), True)
         self.assertIs(shows_keeps_on(Book(TWO, []), 2, ("no", ("gone", ["ann", "bob"], []))), True)

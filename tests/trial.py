@@ -291,3 +291,14 @@ class Priced:
         if [row[0] for row in paper] != self.able[len(names)]:
             return False
         return all(self.shows(bound, below, (*names, name)) for name, below in paper)
+
+    def shows_cheapest(self, value):
+        """Whether a value shows a cheapest sharing, or that there is none."""
+        if not isinstance(value, tuple):
+            return False
+        if len(value) == 2:
+            return value[0] == "no" and self.trees.shows(self.facts, value[1])
+        if len(value) != 4 or value[0] != "yes" or value[1] not in right_sharings(self.book, self.facts):
+            return False
+        spent = sum(self.costs[pair] for pair in zip(self.book.steps, value[1]))
+        return is_number(value[2], 10 ** 9) and value[2] == spent and self.shows(spent, value[3])

@@ -94,7 +94,7 @@ class Case:
 
     def _with(self, step, name):
         """What verdict tells if a person does a step, too."""
-        return verdict(self._kept_to([*self._deeds, (step, name)]))
+        return verdict(self._kept_to(self._deeds + [(step, name)]))
 
     def who(self, step):
         """The list of the people who may do a step now."""

@@ -13,18 +13,18 @@ FACT_PARTS = 3
 def _words_of(rule):
     """The words of a rule."""
     if rule[0] == "if":
-        return ["if", *rule[1]] + _words_of(rule[2])
+        return ["if"] + list(rule[1]) + _words_of(rule[2])
     if rule[0] in OPPOSITES:
         return list(rule)
     kind, chosen, many = rule
-    return kind.split(" ") + [str(many), *chosen]
+    return kind.split(" ") + [str(many)] + list(chosen)
 
 
 def show_book(book):
     """The text of a book."""
     steps = [["step", step] for step in book.steps]
     people = [["person", name, group, *able] for name, group, able in book.staff.people()]
-    rules = [["rule", *_words_of(rule)] for rule in book.rules]
+    rules = [["rule"] + _words_of(rule) for rule in book.rules]
     return "\n".join([" ".join(words) for words in steps + people + rules])
 
 
