@@ -50,7 +50,7 @@ class Reader:
             step, person = STEPS_LINE.fullmatch(line), PERSON_LINE.fullmatch(line)
             if step and not people and not rules and len(steps) < 6 and step[1] not in steps:
                 steps.append(step[1])
-            elif person and not rules and len(people) < 8 and person[1] not in [row[0] for row in people]:
+            elif person and steps and not rules and len(people) < 8 and person[1] not in [row[0] for row in people]:
                 able = person[3].split()
                 if able != [step for step in steps if step in able]:
                     return number
@@ -59,8 +59,7 @@ class Reader:
                 rules.append(self.all_rules(steps)[line])
             else:
                 return number
-        # A book has at least one step: this line is lacking.
-        return (steps, people, rules) if steps else text.count("\n") + 2
+        return steps, people, rules
 
 
 def changed(text, words):
@@ -181,9 +180,7 @@ class BookTextsTest(TextsTest):
         lines = ["step ask", "step grant", "person ann red ask grant", "rule same ask grant"]
         self.assertEqual(len(read_book("\n".join(lines))), 1)
         for text, line in [
-            ("", 1), ("\n", 1), ("person ann red", 2), ("rule same ask grant", 1), ("person ann red\nstep ask", 2), ("step ask\n", 2),
-            ("person ann red\nperson bob red", 3), ("person ann red ask", 1), ("person ann red\nperson ann red", 2), ("person ann red\n", 2),
-            ("person ann red\nrule most 1 ask", 2),
+            ("", 1), ("\n", 1), ("rule same ask grant", 1), ("step ask\n", 2),
             ("step ask\nperson ann red\nstep grant", 3), ("step ask\nstep grant\nrule same ask grant\nperson ann red", 4),
             ("step ask\nstep grant\nrule same ask grant\nstep look", 4), ("step ask\nrule same ask grant\nstep grant", 2),
             ("step ask\nstep ask", 2), ("step ask\nperson ann red\nperson ann blue", 3), ("step ask\nstep grant\nperson ann red grant ask", 3),
@@ -196,6 +193,17 @@ class BookTextsTest(TextsTest):
         ]:
             self.assert_bad(line, read_book, text)
             self.assertEqual(self.reader.read(text), line)
+
+    def test_a_first_line_that_tells_no_step(self):
+        lines = ["person ann red", "person ann red ask", "rule most 1 ask", "rule same ask grant", "person", "person ann", "rule", "", "ask"]
+        rest = ["step ask", "step as", "step ask\nstep grant", "person ann red", "person bob red", "rule most 1 ask", "", "step Ask"]
+        for line in lines:
+            for text in [line, *[line + "\n" + more for more in rest], *[line + "\n" + more + "\n" for more in rest]]:
+                self.assert_bad(1, read_book, text)
+                self.assertEqual(self.reader.read(text), 1)
+        self.assert_bad(1, read_book, "\n".join([f"person {name} red" for name in [*NAMES, "zoe"]]))
+        self.assert_bad(3, read_book, "step ask\nperson cid red\nstep as")
+        self.assertEqual(read_book("step ask\nperson cid red").staff.people(), [("cid", "red", ())])
 
     def test_too_many(self):
         steps = [f"step {name}" for name in NAMES[:7]]

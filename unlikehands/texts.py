@@ -95,7 +95,8 @@ class BookLines:
 
     def _takes_person(self, words):
         """Reads a line of a person; whether it is one that may stand here."""
-        if self.told_rules or len(self.told_people) >= MOST_PEOPLE or len(words) < 3:
+        # A book has at least one step, so no person stands in the first line.
+        if not self.told_steps or self.told_rules or len(self.told_people) >= MOST_PEOPLE or len(words) < 3:
             return False
         person = (words[1], words[2], tuple(words[3:]))
         in_order = tuple([step for step in self.told_steps if step in person[2]])
@@ -125,15 +126,11 @@ class BookLines:
 
 def read_book(text):
     """The book that a text writes."""
-    lines = _lines_of(text)
-    read = BookLines()
-    for at, words in enumerate(lines):
-        if not read.takes(words):
+    lines = BookLines()
+    for at, words in enumerate(_lines_of(text)):
+        if not lines.takes(words):
             raise BadText(at + 1)
-    # People may stand in a text without steps, each in a line like theirs, but a line of a step is lacking then.
-    if not read.told_steps:
-        raise BadText(len(lines) + 1)
-    return Book(Staff(read.told_steps, read.told_people), read.told_rules)
+    return Book(Staff(lines.told_steps, lines.told_people), lines.told_rules)
 
 
 def read_sharing(staff, text):
